@@ -114,6 +114,39 @@ func arenaPlaces(a impl.Arena) []arenaPlace {
 	return list
 }
 
+// eachWrongNumber gives a with one of its numbers wrong, for each of them, and the name of that one.
+func eachWrongNumber(a impl.Arena, check func(wrong impl.Arena, name string)) {
+	for _, place := range arenaPlaces(a) {
+		for _, number := range append(farOut(), 0, 1, 12, 101, 10000) {
+			if place.fits(number) {
+				continue
+			}
+			wrong := cloneArena(a)
+			*place.at(&wrong) = number
+			check(wrong, place.name)
+		}
+	}
+}
+
+// checkApart writes into each list, and into the room behind it, and looks at all others.
+func checkApart[T comparable](t *testing.T, lists [][]T, mark T) {
+	t.Helper()
+	for i, list := range lists {
+		var others [][]T
+		for _, other := range lists[i+1:] {
+			others = append(others, slices.Clone(other))
+		}
+		for j := range list[:cap(list)] {
+			list[:cap(list)][j] = mark
+		}
+		for j, other := range lists[i+1:] {
+			if !slices.Equal(other, others[j]) {
+				t.Errorf("what is written into the list %d is in the list %d", i, i+1+j)
+			}
+		}
+	}
+}
+
 // manyNumbers are all small ones, those round each limit, and those that are far out.
 func manyNumbers() []int64 {
 	list := append(farOut(), 398, 399, 400, 9998, 9999, 10000, 10001, 19999, 20000, 20001, 999999, 1000000, 1000001)

@@ -316,18 +316,11 @@ func TestVersionsOfWrongPlans(t *testing.T) {
 
 func TestVersionsOfWrongArenas(t *testing.T) {
 	for _, each := range []planned{{busyPlan(), busyArena()}, {linkPlan(), linkArena()}} {
-		for _, place := range arenaPlaces(each.a) {
-			for _, number := range append(farOut(), 0, 1, 12, 101, 10000) {
-				if place.fits(number) {
-					continue
-				}
-				a := cloneArena(each.a)
-				*place.at(&a) = number
-				for n := range int64(len(a.Nodes)) {
-					checkNoVersion(t, each.p, a, n, place.name)
-				}
+		eachWrongNumber(each.a, func(a impl.Arena, name string) {
+			for n := range int64(len(a.Nodes)) {
+				checkNoVersion(t, each.p, a, n, name)
 			}
-		}
+		})
 	}
 	for _, camera := range []int64{math.MinInt64, -1, 19, 101, math.MaxInt64} {
 		a := linkArena()
@@ -385,20 +378,7 @@ func TestVersionsOfShareNothing(t *testing.T) {
 			lists = append(lists, impl.VersionsOf(p, a, n))
 		}
 	}
-	for i, list := range lists {
-		var others [][]int64
-		for _, other := range lists[i+1:] {
-			others = append(others, slices.Clone(other))
-		}
-		for j := range list[:cap(list)] {
-			list[:cap(list)][j] = 55
-		}
-		for j, other := range lists[i+1:] {
-			if !slices.Equal(other, others[j]) {
-				t.Errorf("what is written into the list %d is in the list %d", i, i+1+j)
-			}
-		}
-	}
+	checkApart(t, lists, 55)
 	if !reflect.DeepEqual(cloneArena(wholeArena(a)), whole) {
 		t.Error("what is written into an answer is in the arena")
 	}
